@@ -93,32 +93,32 @@ func TestXor(t *testing.T) { // P1.2, P1.6
 
 func TestReader(t *testing.T) { // P1.3
 	var none *be.Reader
-	_, e1 := none.Num(9)
-	_, e2 := none.Bytes(-1)
-	if e1 != api.ErrNil || e2 != api.ErrNil || none.Left() != 0 || none.End() != api.ErrNil {
+	n, e1 := none.Num(9)
+	s, e2 := none.Bytes(-1)
+	if n != 0 || s != "" || e1 != api.ErrNil || e2 != api.ErrNil || none.Left() != 0 || none.End() != api.ErrNil {
 		t.Error("nil reader")
 	}
 	r := be.Read("\x01\x02abc")
-	if _, e := r.Num(0); e != api.ErrArg {
-		t.Error(int(e))
+	if n, e := r.Num(0); n != 0 || e != api.ErrArg {
+		t.Error(n, int(e))
 	}
-	if _, e := r.Num(9); e != api.ErrArg {
-		t.Error(int(e))
+	if n, e := r.Num(9); n != 0 || e != api.ErrArg {
+		t.Error(n, int(e))
 	}
-	if _, e := r.Num(6); e != api.ErrShort || r.Left() != 5 {
-		t.Error(int(e))
+	if n, e := r.Num(6); n != 0 || e != api.ErrShort || r.Left() != 5 {
+		t.Error(n, int(e))
 	}
 	if n, e := r.Num(2); n != 258 || e != api.OK || r.Left() != 3 {
 		t.Error(n, int(e))
 	}
-	if _, e := r.Bytes(-1); e != api.ErrArg {
-		t.Error(int(e))
+	if s, e := r.Bytes(-1); s != "" || e != api.ErrArg {
+		t.Error(s, int(e))
 	}
-	if _, e := r.Bytes(4); e != api.ErrShort {
-		t.Error(int(e))
+	if s, e := r.Bytes(4); s != "" || e != api.ErrShort {
+		t.Error(s, int(e))
 	}
-	if _, e := r.Bytes(math.MaxInt); e != api.ErrShort {
-		t.Error(int(e))
+	if s, e := r.Bytes(math.MaxInt); s != "" || e != api.ErrShort {
+		t.Error(s, int(e))
 	}
 	if s, e := r.Bytes(0); s != "" || e != api.OK || r.Left() != 3 {
 		t.Error(s, int(e))

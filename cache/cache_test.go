@@ -355,6 +355,36 @@ func TestMuch(t *testing.T) { // P27.3 .. P27.5
 	}
 }
 
+func TestJustMuch(t *testing.T) { // P27.3: 24 blocks are not much, 25 are
+	x := made(t, 64, 3, 200)
+	ok(t, x.Write(0, data(1, 2, 3, 4, 5, 6, 7, 8)), x.Write(8, data(9)), x.Write(10, data(10)))
+	if x.s.Waiting(0) != 24 {
+		t.Fatal(x.s.Waiting(0))
+	}
+	ok(t, x.Write(9, data(11)))
+	if x.s.Waiting(0) != 25 || x.s.Reg().Used[0] != 1 {
+		t.Fatal(x.s.Waiting(0))
+	}
+	ok(t, x.Write(9, data(12)))
+	if x.s.Waiting(0) != 7 || x.s.Reg().Used[0] == 1 {
+		t.Error(x.s.Waiting(0))
+	}
+	// The fast device's blocks count likewise.
+	ok(t, x.Promote(0), x.Promote(1), x.Promote(2), x.Write(0, data(1, 2, 3, 4, 5, 6, 7, 8)))
+	used := x.s.Reg().Used[1]
+	if x.s.Waiting(1) != 24 || x.s.Waiting(0) != 0 {
+		t.Fatal(x.s.Waiting(1))
+	}
+	ok(t, x.Write(8, data(13)))
+	if x.s.Waiting(1) != 28 || x.s.Reg().Used[1] != used {
+		t.Fatal(x.s.Waiting(1))
+	}
+	ok(t, x.Write(8, data(14)))
+	if x.s.Waiting(1) != 13 || x.s.Reg().Used[1] == used {
+		t.Error(x.s.Waiting(1))
+	}
+}
+
 func TestTick(t *testing.T) { // P27.4
 	x := made(t, 16, 2, 100)
 	ok(t, x.Write(0, data(1, 2, 3, 4, 5, 6, 7, 8)))
@@ -493,6 +523,80 @@ func TestQuiet(t *testing.T) { // P27.3, P27.5
 	ok(t, x.Write(1, data(9))) // what was filled is committed, what is written is not
 	if x.s.Reg().Used[1] == used || x.s.Reg().Dirty != 0 || x.s.Waiting(1) == 0 {
 		t.Error("quiet")
+	}
+}
+
+func TestRuns(t *testing.T) { // P27.3: a run goes over groups
+	x := made(t, 16, 2, 100)
+	hot(x, 1)
+	ok(t, x.Tick(0))
+	if !x.Status().Moving {
+		t.Fatal("not moving")
+	}
+	ok(t, x.Write(3, data(1, 2)))
+	if x.Status().Moving {
+		t.Error("not quiet with the second block's group")
+	}
+	y := made(t, 16, 2, 100)
+	for range 3 {
+		ok(t, y.Write(3, data(1, 2)))
+	}
+	for range 8 {
+		ok(t, y.Tick(-1))
+	}
+	ok(t, y.Tick(1)) // groups 0 and 1 weigh 1 each
+	y.slot(t, 0, api.Slot{Group: 1, Valid: [4]bool{true, true}})
+}
+
+func TestPartly(t *testing.T) { // P27.4, P27.7: what is not valid in a slot is not written back
+	x := made(t, 16, 2, 100)
+	ok(t, x.Write(0, data(1, 2, 3, 4)))
+	hot(x, 0)
+	ok(t, x.Promote(1), x.Invalidate(1, 1), x.Tick(0), x.Commit())
+	if !x.open() {
+		t.Fatal("open")
+	}
+	x.slot(t, 0, api.Slot{Group: 0, Valid: [4]bool{true, true}})
+	ok(t, x.Write(1, data(9)), x.Tick(0))
+	x.slot(t, 0, api.Slot{Group: 0, Valid: [4]bool{true, true}})
+	for b, want := range []int{1, 9, 3, 4} {
+		x.reads(t, b, data(want))
+		if s, e := x.v.Read(0, b); s != data(want) || e != api.OK {
+			t.Error(b)
+		}
+	}
+}
+
+func TestBusy(t *testing.T) { // P27.5: whether it is busy is asked ahead of all else, but by Invalidate
+	x := made(t, 16, 3, 100)
+	ok(t, x.Promote(1))
+	hot(x, 0)
+	ok(t, x.Tick(0), x.Write(4, data(1)))
+	if s := x.Status(); !s.Moving || s.Dirty != 1 {
+		t.Fatal(s)
+	}
+	steps := x.r.Calls()
+	if x.SetMode(1) != api.ErrBusy || x.SetMode(2) != api.ErrBusy || x.Detach() != api.ErrBusy || !x.Status().Moving || x.r.Calls() != steps {
+		t.Error("busy, but something was done")
+	}
+	ok(t, x.Promote(2))
+	if x.Invalidate(0, 4) != api.ErrBusy || x.Status().Cached != 3 || x.Status().Moving {
+		t.Error(x.Status())
+	}
+	ok(t, x.Tick(0), x.Invalidate(0, 3))
+	if x.Status().Cached != 0 || x.kept(t).Len() != 0 {
+		t.Error(x.Status())
+	}
+	for i := range 3 {
+		x.slot(t, i, api.Slot{Group: -1})
+	}
+	ok(t, x.Promote(2), x.Detach(), x.Tick(0), x.Detach())
+	if x.Status().Clock != 1 {
+		t.Error("what is detached is not detached again", x.Status().Clock)
+	}
+	ok(t, x.Attach(), x.Tick(0), x.Attach())
+	if x.Status().Clock != 1 {
+		t.Error("what is attached is not attached again", x.Status().Clock)
 	}
 }
 

@@ -141,6 +141,9 @@ func TestApart(t *testing.T) { // P9.4
 			t.Error(b, k, i, back)
 		}
 	}
+	if k, i, e := geom.What(0); k != 0 || i != 0 || e != api.OK {
+		t.Error(k, i)
+	}
 	if k, i, _ := geom.What(81); k != 2 || i != 0 {
 		t.Error(k, i)
 	}

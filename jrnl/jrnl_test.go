@@ -138,6 +138,23 @@ func TestAppendFails(t *testing.T) { // P15.3
 	}
 }
 
+func TestLeastAndMost(t *testing.T) { // P15.2, P15.5
+	r := rig.New()
+	j := begun(t, r, nil, 1, 0, 7)
+	if k, all, e := jrnl.Load(r, nil, where(1, 0), 1, j.Anchor()); e != api.OK || len(all) != 1 || k.Seq() != 7 || k.Used() != 1 {
+		t.Error(int(e))
+	}
+	if e := j.Append(rec(8, 64)); e != api.OK {
+		t.Error(int(e))
+	}
+	if e := j.Append(rec(9, 10)); e != api.OK || j.Used() != 80 {
+		t.Error(int(e), j.Used())
+	}
+	if k, all, e := jrnl.Load(r, nil, where(1, 0), 80, j.Anchor()); e != api.OK || len(all) != 3 || !record.Same(all[1], rec(8, 64)) || k.Room(0) {
+		t.Error(int(e))
+	}
+}
+
 func TestLooksOfNil(t *testing.T) { // P15.4
 	var j *jrnl.Journal
 	if j.Anchor() != (api.Digest{}) || j.Used() != 0 || j.Area() != 0 || j.Seq() != 0 || j.Root() != (api.Digest{}) {

@@ -89,6 +89,7 @@ func TestParse(t *testing.T) { // P13.2
 	}{
 		{nil, short}, {[]string{}, short}, {[]string{""}, form}, {with(0, good[0][:63]), form}, {with(0, good[0]+"x"), form}, {set(0, 0, 'x'), form}, {set(0, 1, 'x'), form},
 		{set(0, 40, 1), form}, {set(0, 63, 1), form}, {set(0, 7, 65), form}, {set(0, 6, 1), form}, {good[:35], short}, {good[:1], short}, {set(0, 7, 66), form}, {set(0, 7, 64), short},
+		{set(0, 0, 'x')[:1], form}, {set(0, 40, 1)[:1], form}, {set(0, 7, 65)[:1], form}, {set(0, 1, 'x')[:35], form}, // ahead of what is missing
 		{with(5, "x"), form}, {with(35, good[35]+"x"), form}, {with(1, good[1][:62]), form}, {set(1, 1, 0), form}, {set(1, 0, 2), form}, {set(1, 3, good[1][1]), form}, {set(2, 2, 1), form}, {set(2, 63, 1), form}, {set(2, 1, 5), form},
 	} {
 		x, n, e := record.Parse(c.l)

@@ -100,6 +100,9 @@ func TestArmFault(t *testing.T) { // P12.1, P12.2
 	if s, e := r.Reg(); s != register("\x00") || e != api.OK || r.Down() {
 		t.Error(int(e))
 	}
+	if r.Arm(1<<40) != api.OK || r.Fault(1<<40) != api.OK || r.Later(1<<40, 0, 0, full("x")) != api.OK {
+		t.Error("the greatest count")
+	}
 	r.Fault(1)
 	r.Fault(3)
 	r.Write(1, 1, full("a"))

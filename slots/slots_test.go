@@ -90,8 +90,8 @@ func TestRead(t *testing.T) { // P22.1
 
 func TestFindTakeFree(t *testing.T) { // P22.2
 	var none *slots.Table
-	_, e := none.Take(99)
-	if e != api.ErrNil || none.Free(99) != api.ErrNil {
+	n, e := none.Take(99)
+	if n != 0 || e != api.ErrNil || none.Free(99) != api.ErrNil {
 		t.Error("nil")
 	}
 	x := table(t, 2)

@@ -136,6 +136,28 @@ func TestPeriod(t *testing.T) { // P25.2
 	}
 }
 
+func TestSeldom(t *testing.T) { // P25.2: once or twice: it stays where it is, and in its place
+	p := smq.New()
+	p.Hit(1)
+	hits(p, 2, 2)
+	till(p)
+	heat(t, p, 1, 0)
+	heat(t, p, 2, 0)
+	p = smq.New()
+	for _, g := range []int{2, 3, 4, 5} {
+		hits(p, g, 3)
+	}
+	till(p)
+	for _, g := range []int{5, 4, 3, 2} {
+		p.Hit(g)
+	}
+	hits(p, 9, 3)
+	till(p) // 5, 4, 3, 2 on level 1, and 9 behind them: one too many
+	for g, want := range map[int]int{5: 0, 4: 1, 3: 1, 2: 1, 9: 1} {
+		heat(t, p, g, want)
+	}
+}
+
 func TestBalance(t *testing.T) { // P25.2
 	p := smq.New()
 	for g := range 7 {

@@ -359,6 +359,26 @@ func TestFull(t *testing.T) { // P19.4
 	ok(t, s.Put(0, 0, full("x")))
 }
 
+func TestJustFull(t *testing.T) { // P19.4: with 57 blocks there is room, with 58 there is none
+	_, s := formatted(t)
+	leaf := 0
+	for ; s.Waiting(1) <= 50; leaf += 4 {
+		ok(t, s.Put(1, leaf, block(leaf)))
+	}
+	for leaf = 1; s.Waiting(1) < 57; leaf += 4 { // beside a leaf that was put: one block more
+		ok(t, s.Put(1, leaf, block(leaf)))
+	}
+	if s.Waiting(1) != 57 {
+		t.Fatal(s.Waiting(1))
+	}
+	ok(t, s.Put(1, 0, block(9)), s.Clear(1, 0), s.Put(1, leaf, block(leaf)))
+	if s.Waiting(1) != 58 || s.Put(1, 0, block(9)) != api.ErrFull || s.Clear(1, 0) != api.ErrFull {
+		t.Error(s.Waiting(1))
+	}
+	ok(t, s.Commit())
+	get(t, s, 1, leaf, block(leaf))
+}
+
 func TestCommit(t *testing.T) { // P19.5
 	var none *store.Store
 	if none.Commit() != api.ErrNil || none.Say(0, 0) != api.ErrNil || none.Raise(0) != api.ErrNil || none.Attach() != api.ErrNil || none.Detach() != api.ErrNil {
