@@ -120,7 +120,7 @@ func TestFresh(t *testing.T) { // P33.3
 		n int
 		e api.Errno
 	}{
-		{nil, 0, 0}, {[]string{nothing}, 0, 0}, {[]string{one}, 2, 0}, {[]string{one, two, one}, 3, 0},
+		{nil, 0, 0}, {[]string{nothing}, 0, 0}, {[]string{with(nothing, map[int]string{224: sealed(t, 0, "a")})}, 1, 0}, {[]string{with(nothing, map[int]string{224: sealed(t, 0, "a"), 225: sealed(t, 0, "b")})}, 0, api.ErrTamper}, {[]string{one}, 2, 0}, {[]string{one, two, one}, 3, 0},
 		{[]string{with(one, map[int]string{250: sealed(t, 5, "other")})}, 0, api.ErrTamper}, {[]string{one, two, with(nothing, map[int]string{224: sealed(t, 7, "other")})}, 0, api.ErrTamper},
 		{[]string{with(one, map[int]string{250: sealed(t, 5, "other")}), "x"}, 0, api.ErrForm},
 	} {
