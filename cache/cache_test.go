@@ -640,7 +640,7 @@ func TestManagement(t *testing.T) { // P27.5
 	if s := x.Status(); s.Attached || s.Cached != 0 || s.Clock != 0 || s.Mode != 2 || x.s.Reg().Attached || s.Slots != 2 {
 		t.Error(s)
 	}
-	if _, e := x.Slot(0); e != api.ErrNil {
+	if s, e := x.Slot(0); s != (api.Slot{}) || e == api.OK {
 		t.Error(int(e))
 	}
 	ok(t, x.Detach(), x.SetMode(1), x.Promote(0), x.Invalidate(0, 4), x.Tick(0))

@@ -40,9 +40,9 @@ func TestChance(t *testing.T) { // P8.1
 }
 
 func TestPick(t *testing.T) { // P8.2
-	many := make([]int, 64)
-	for i := range many {
-		many[i] = 1 << 20
+	ones := make([]int, 64)
+	for i := range ones {
+		ones[i] = 1
 	}
 	for i, c := range []struct {
 		draw    int
@@ -54,7 +54,7 @@ func TestPick(t *testing.T) { // P8.2
 		{4, []int{2, 0, 3, 1}, 2, 0, 0}, {62, []int{2, 0, 3, 1}, 2, 10, 0}, {0, []int{0, 0, 1}, 2, 0, 0},
 		{-1, make([]int, 65), 0, 0, api.ErrRange}, {0, make([]int, 65), 0, 0, api.ErrBig}, {0, []int{0, -1}, 0, 0, api.ErrArg}, {0, []int{0, 1<<20 + 1}, 0, 0, api.ErrArg},
 		{0, nil, 0, 0, api.ErrNone}, {0, make([]int, 64), 0, 0, api.ErrNone}, {0, []int{math.MaxInt, math.MaxInt}, 0, 0, api.ErrArg},
-		{64<<20 - 1, many, 63, 0, 0}, {64 << 20, many, 0, 1, 0}, {5<<20 + 3, many, 5, 0, 0},
+		{1<<20 + 7, []int{0, 1 << 20}, 1, 1, 0}, {1<<20 - 1, ones, 63, 1<<14 - 1, 0},
 	} {
 		if k, left, e := dice.Pick(c.draw, c.l); k != c.k || left != c.left || e != c.e {
 			t.Error(i, k, left, int(e))

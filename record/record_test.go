@@ -121,9 +121,6 @@ func TestAll(t *testing.T) { // P13.2
 			t.Error(i)
 		}
 	}
-	if all, e := record.All(nil); len(all) != 0 || e != api.OK {
-		t.Error(int(e))
-	}
 	if all, e := record.All(l[:len(l)-1]); all != nil || e != api.ErrShort {
 		t.Error(int(e))
 	}

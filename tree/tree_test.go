@@ -214,10 +214,11 @@ func TestAsPut(t *testing.T) { // P18.5
 					t.Fatal(int(e))
 				}
 				model[leaf] = ""
-			case k == 6:
+			case k < 8:
 				write(t, r, seed%2, x)
-			case k == 7:
-				x.Forget()
+				if k == 7 {
+					x.Forget()
+				}
 			default:
 				get(t, x, leaf, model[leaf])
 			}

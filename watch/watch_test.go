@@ -96,10 +96,10 @@ func TestErrors(t *testing.T) { // P30.1
 		// Of one that is not open.
 		shut := says(api.XClose, api.OK, fine)
 		hears(t, shut, says(kind, api.ErrState, verdict(uses)))
-		if uses {
-			hears(t, shut, line{act(kind), api.Told{S: zero}, wrong})
-		} else {
+		if !uses {
 			hears(t, shut, says(kind, api.OK, fine))
+		} else if kind != api.XClose {
+			hears(t, shut, line{act(kind), api.Told{S: zero}, wrong})
 		}
 		// Of one that is hurt.
 		fault := says(api.XFault, api.OK, fine)
